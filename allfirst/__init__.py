@@ -1,0 +1,1 @@
+"""Allfirst: plans that wait for all or for the first."""

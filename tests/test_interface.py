@@ -1,0 +1,39 @@
+import importlib
+import inspect
+import unittest
+
+INTERFACE = {
+    "allfirst.rows": {
+        "row_hour": ["row", "hours"],
+        "under": ["row", "other"],
+        "joined": ["row", "other"],
+        "shifted": ["row", "wait"],
+        "thinned": ["rows"],
+    },
+    "allfirst.forms": {
+        "thing_form": ["thing"],
+        "waited": ["form", "wait"],
+        "form_hour": ["form", "hours"],
+        "first_of": ["forms", "most"],
+        "all_of": ["forms", "most"],
+        "put_into": ["form", "forms", "most"],
+    },
+    "allfirst.errors": {
+        "BadRow": ["row"],
+        "NoName": ["row"],
+    },
+}
+
+
+class Interface(unittest.TestCase):
+    def test_names_and_arguments(self):
+        for module, names in INTERFACE.items():
+            for name, arguments in names.items():
+                with self.subTest(module, name=name):
+                    asked = getattr(importlib.import_module(module), name)
+                    self.assertEqual(list(inspect.signature(asked).parameters), arguments)
+                    self.assertEqual(asked.__module__, module)
+
+
+if __name__ == "__main__":
+    unittest.main()

@@ -50,5 +50,5 @@ def form_within(rows, most):
     # One row beyond `most` is enough to refuse; the others need not be thinned.
     kept = lowest(rows, most + 1)
     if len(kept) > most:
-        raise TooMany(f"more than {most} rows")
+        raise TooMany(f"more than {most}")
     return sorted(kept)

@@ -1,9 +1,11 @@
-"""Small families of rows, forms and hours that the tests walk through."""
+"""Small families of rows, forms and hours that the tests walk through, and what the document's words make of them."""
 
+import functools
 import itertools
 import random
 
-from allfirst.rows import thinned
+from allfirst.errors import TooMany
+from allfirst.rows import joined, shifted, thinned
 
 
 def all_rows(things, waits):
@@ -33,3 +35,54 @@ def parting_hours(row, many, late):
     for thing, wait in row:
         hours[thing] = -wait
     return hours
+
+
+def drawn_hours(seed, count, many, reach):
+    """As many lists of hours from -reach to reach; the same ones for the same seed."""
+    chance = random.Random(seed)
+    return [[chance.randint(-reach, reach) for thing in range(many)] for turn in range(count)]
+
+
+def first_by_the_words(forms):
+    """The forms that are met on the way, each made anew of the rows of the first so many."""
+    return [thinned(sum(forms[:count], [])) for count in range(1, len(forms) + 1)]
+
+
+def all_by_the_words(forms):
+    choices = [itertools.product(*forms[:count]) for count in range(1, len(forms) + 1)]
+    return [thinned([functools.reduce(joined, rows) for rows in choice]) for choice in choices]
+
+
+def put_by_the_words(form, forms):
+    met, ends = [], []
+    for row in form:
+        met += all_by_the_words([[shifted(inner, wait) for inner in forms[thing]] for thing, wait in row])
+        ends.append(met[-1])
+    return met + first_by_the_words(ends)
+
+
+def over_by_the_words(column, other):
+    waits = dict(other)
+    return all(thing in waits and waits[thing] <= wait for thing, wait in column)
+
+
+def thinned_by_the_words(columns):
+    return sorted({c for c in columns if not any(o != c and over_by_the_words(o, c) for o in columns)})
+
+
+def combined(pairs, chosen):
+    """One tuple of these pairs, each thing once, with the wait that is chosen of its waits."""
+    waits = {}
+    for thing, wait in pairs:
+        waits[thing] = chosen(wait, waits.get(thing, wait))
+    return tuple(sorted(waits.items()))
+
+
+def hold_to(case, met, asked, handed):
+    """Asked with each `most` it refuses just where one of the lists that are met has more, else tells the last."""
+    greatest = max(len(told) for told in met)
+    for most in range(1, greatest + 3):
+        if most < greatest:
+            case.assertRaises(TooMany, asked, *handed, most)
+        else:
+            case.assertEqual(asked(*handed, most), met[-1])

@@ -1,12 +1,12 @@
-import functools
 import itertools
 import unittest
 
 from allfirst.errors import TooMany
 from allfirst.forms import all_of, first_of, form_hour, put_into, thing_form, waited
-from allfirst.rows import joined, shifted, thinned
+from allfirst.rows import thinned
 
-from helper import all_hours, all_rows, parting_hours, some_forms
+from helper import all_by_the_words, all_hours, all_rows, first_by_the_words, hold_to, parting_hours
+from helper import put_by_the_words, some_forms
 
 HUGE = 10 ** 3000
 PLENTY = 10 ** 6
@@ -316,44 +316,18 @@ class TooManyRows(unittest.TestCase):
         self.assertEqual(len(all_of([one, other[:1]], 60)), 60)
 
 
-def first_by_the_words(forms):
-    """The forms that are met on the way, each made anew of the rows of the first so many."""
-    return [thinned(sum(forms[:count], [])) for count in range(1, len(forms) + 1)]
-
-
-def all_by_the_words(forms):
-    choices = [itertools.product(*forms[:count]) for count in range(1, len(forms) + 1)]
-    return [thinned([functools.reduce(joined, rows) for rows in choice]) for choice in choices]
-
-
-def put_by_the_words(form, forms):
-    met, ends = [], []
-    for row in form:
-        met += all_by_the_words([[shifted(inner, wait) for inner in forms[thing]] for thing, wait in row])
-        ends.append(met[-1])
-    return met + first_by_the_words(ends)
-
-
 class TooManyJustWhereItIsTold(unittest.TestCase):
-    def held_to(self, met, made, *handed):
-        greatest = max(len(form) for form in met)
-        for most in range(1, greatest + 2):
-            if most < greatest:
-                self.assertRaises(TooMany, made, *handed, most)
-            else:
-                self.assertEqual(made(*handed, most), met[-1])
-
     def test_the_first_and_all(self):
         for turn in range(len(FORMS) - 4):
             for count in (1, 2, 3, 4):
                 forms = FORMS[turn:turn + count]
-                self.held_to(first_by_the_words(forms), first_of, forms)
-                self.held_to(all_by_the_words(forms), all_of, forms)
+                hold_to(self, first_by_the_words(forms), first_of, [forms])
+                hold_to(self, all_by_the_words(forms), all_of, [forms])
 
     def test_what_is_put_in(self):
         for turn in range(len(FORMS) - 4):
             form, forms = FORMS[turn], FORMS[turn + 1:turn + 4]
-            self.held_to(put_by_the_words(form, forms), put_into, form, forms)
+            hold_to(self, put_by_the_words(form, forms), put_into, [form, forms])
 
 
 if __name__ == "__main__":

@@ -3,14 +3,20 @@
 import copy
 import unittest
 
+from allfirst.boxes import earliest, keeps_earliest, keeps_latest, latest, windows
+from allfirst.columns import column_hour, columns_hour, meeting, over, thinned_columns, turned, turned_back
 from allfirst.forms import all_of, first_of, form_hour, put_into, thing_form, waited
+from allfirst.holding import gain, holders, slack, ways
+from allfirst.lags import compared, lag, lag_paper, later_by
 from allfirst.rows import joined, row_hour, shifted, thinned, under
 
 ONE = [((0, 1), (1, 0)), ((2, -3),)]
 OTHER = [((0, 4),), ((1, 2), (2, 0))]
+HOURS = [3, -4, 5]
 STRANGE = ((9, 9),)
 
-TOLD_LISTS = [
+# Those that tell lists of rows, columns or boxes, which rise.
+TOLD_ROWS = [
     (thinned, [ONE + OTHER]),
     (thinned, [ONE]),
     (thinned, [[]]),
@@ -25,27 +31,65 @@ TOLD_LISTS = [
     (all_of, [[ONE, ONE], 60]),
     (put_into, [ONE, [OTHER, ONE, OTHER], 60]),
     (put_into, [thing_form(0), [ONE], 60]),
+    (thinned_columns, [ONE + OTHER]),
+    (thinned_columns, [ONE]),
+    (thinned_columns, [[]]),
+    (turned, [ONE, 60]),
+    (turned, [thing_form(1), 60]),
+    (turned_back, [OTHER, 60]),
+    (turned_back, [thing_form(1), 60]),
+    (latest, [[ONE], [0], 60]),
+    (latest, [[ONE, OTHER], [5, -5], 60]),
+    (earliest, [[ONE], [0], 60]),
+    (earliest, [[ONE, OTHER], [5, -5], 60]),
 ]
 
-TOLD_OTHERS = [
-    (row_hour, [ONE[0], [3, -4, 5]]),
+TOLD_LISTS = TOLD_ROWS + [
+    (lag_paper, [ONE, ONE]),
+    (later_by, [ONE, OTHER, 1, 3]),
+    (later_by, [ONE, OTHER, 1, 12]),
+    (compared, [ONE, OTHER, 3]),
+    (windows, [ONE, OTHER]),
+    (windows, [[], OTHER]),
+    (ways, [ONE, HOURS]),
+    (holders, [ONE, HOURS, 60]),
+]
+
+TOLD_NUMBERS = [
+    (row_hour, [ONE[0], HOURS]),
+    (form_hour, [ONE, HOURS]),
+    (lag, [ONE, [((0, 0), (1, 0)), ((2, 0),)]]),
+    (column_hour, [ONE[0], HOURS]),
+    (columns_hour, [ONE, HOURS]),
+    (meeting, [ONE[0], ((1, -1),)]),
+    (slack, [[((0, 1), (1, 0))], HOURS, 1]),
+    (gain, [[((0, 1), (1, 0))], HOURS, 0]),
+]
+
+TOLD_TRUTHS = [
     (under, [ONE[0], OTHER[1]]),
+    (over, [ONE[0], OTHER[1]]),
+    (keeps_latest, [ONE[0], HOURS]),
+    (keeps_earliest, [ONE[0], HOURS]),
+]
+
+TOLD_TUPLES = [
     (joined, [ONE[0], OTHER[1]]),
     (shifted, [ONE[0], -2]),
-    (form_hour, [ONE, [3, -4, 5]]),
 ]
 
 
 def lists_within(value):
-    """The lists of a value, itself too, with those that lie in others."""
-    if isinstance(value, list):
-        return [value] + [inner for part in value for inner in lists_within(part)]
-    return []
+    """The lists of a value, itself too, with those that lie in others or in tuples."""
+    own = [value] if isinstance(value, list) else []
+    if isinstance(value, (list, tuple)):
+        return own + [inner for part in value for inner in lists_within(part)]
+    return own
 
 
 class Owning(unittest.TestCase):
     def test_what_is_handed_in_stays_as_it_was(self):
-        for asked, handed in TOLD_LISTS + TOLD_OTHERS:
+        for asked, handed in TOLD_LISTS + TOLD_NUMBERS + TOLD_TRUTHS + TOLD_TUPLES:
             with self.subTest(asked.__name__, handed=handed):
                 given = copy.deepcopy(handed)
                 asked(*given)
@@ -55,23 +99,26 @@ class Owning(unittest.TestCase):
         for asked, handed in TOLD_LISTS:
             with self.subTest(asked.__name__, handed=handed):
                 given = copy.deepcopy(handed)
-                told = asked(*given)
-                self.assertFalse(any(told is inner for inner in lists_within(given)))
+                told = lists_within(asked(*given))
+                self.assertNotEqual(told, [])
+                self.assertFalse(any(one is other for one in told for other in lists_within(given)))
 
     def test_no_two_lists_that_are_told_are_one(self):
         for asked, handed in TOLD_LISTS:
             with self.subTest(asked.__name__, handed=handed):
                 given = copy.deepcopy(handed)
-                self.assertIsNot(asked(*given), asked(*given))
+                told = lists_within(asked(*given)) + lists_within(asked(*given))
+                self.assertEqual(len({id(inner) for inner in told}), len(told))
 
     def test_what_the_asker_does_to_it_changes_nothing(self):
         for asked, handed in TOLD_LISTS:
             with self.subTest(asked.__name__, handed=handed):
                 given = copy.deepcopy(handed)
                 told = asked(*given)
-                before = list(told)
-                told.append(STRANGE)
-                told.reverse()
+                before = copy.deepcopy(told)
+                for inner in lists_within(told):
+                    inner.append(STRANGE)
+                    inner.reverse()
                 self.assertEqual(given, handed)
                 self.assertEqual(asked(*given), before)
 
@@ -80,30 +127,35 @@ class Owning(unittest.TestCase):
             with self.subTest(asked.__name__, handed=handed):
                 given = copy.deepcopy(handed)
                 told = asked(*given)
-                before = list(told)
+                before = copy.deepcopy(told)
                 for inner in lists_within(given):
                     inner.clear()
                 self.assertEqual(told, before)
                 self.assertEqual(asked(*copy.deepcopy(handed)), before)
 
-    def test_kinds(self):
-        for asked, handed in TOLD_LISTS:
+    def test_kinds_of_lists_of_rows(self):
+        for asked, handed in TOLD_ROWS:
             with self.subTest(asked.__name__, handed=handed):
-                told = asked(*handed)
+                given = copy.deepcopy(handed)
+                told = asked(*given)
                 self.assertIs(type(told), list)
                 for row in told:
                     self.assertIs(type(row), tuple)
                     self.assertEqual({type(pair) for pair in row}, {tuple})
                     self.assertEqual({type(number) for pair in row for number in pair}, {int})
-        for asked, handed in TOLD_OTHERS:
-            with self.subTest(asked.__name__, handed=handed):
-                kind = bool if asked is under else int if asked in (row_hour, form_hour) else tuple
-                self.assertIs(type(asked(*handed)), kind)
+
+    def test_kinds_of_others(self):
+        for kind, cases in ((int, TOLD_NUMBERS), (bool, TOLD_TRUTHS), (tuple, TOLD_TUPLES)):
+            for asked, handed in cases:
+                with self.subTest(asked.__name__, handed=handed):
+                    given = copy.deepcopy(handed)
+                    self.assertIs(type(asked(*given)), kind)
 
     def test_lists_of_rows_rise(self):
-        for asked, handed in TOLD_LISTS:
+        for asked, handed in TOLD_ROWS:
             with self.subTest(asked.__name__, handed=handed):
-                told = asked(*handed)
+                given = copy.deepcopy(handed)
+                told = asked(*given)
                 self.assertEqual(told, sorted(told))
 
 

@@ -46,6 +46,26 @@ INTERFACE = {
         "ways": ["form", "hours"],
         "holders": ["form", "hours", "most"],
     },
+    "allfirst.rounds": {
+        "round_hours": ["forms", "hours", "times"],
+        "round_forms": ["forms", "times", "most"],
+        "is_paper": ["forms", "hours", "pace"],
+        "bound": ["hours", "pace", "start", "times"],
+    },
+    "allfirst.plan": {
+        "Plan": ["name", "givens", "rows"],
+        "Book": ["plans"],
+        "plan_by": ["book", "name"],
+    },
+    "allfirst.looking": {
+        "is_name": ["text"],
+        "weight": ["book", "name"],
+        "looked": ["book"],
+    },
+    "allfirst.running": {
+        "hours_of": ["book", "name", "hours"],
+        "told_hour": ["book", "name", "hours"],
+    },
     "allfirst.errors": {
         "BadRow": ["row"],
         "NoName": ["row"],

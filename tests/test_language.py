@@ -161,6 +161,9 @@ class Language(unittest.TestCase):
         self.none(ast.Assign, lambda node: len(node.targets) > 1)
         self.none((ast.For, ast.While), lambda node: node.orelse)
 
+    def test_f_strings_hold_plain_names(self):
+        self.none(ast.FormattedValue, lambda node: not isinstance(node.value, ast.Name) or node.format_spec)
+
     def test_is_stands_beside_none_true_and_false(self):
         self.none(ast.Compare, bad_is)
 

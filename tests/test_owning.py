@@ -8,6 +8,7 @@ from allfirst.columns import column_hour, columns_hour, meeting, over, thinned_c
 from allfirst.forms import all_of, first_of, form_hour, put_into, thing_form, waited
 from allfirst.holding import gain, holders, slack, ways
 from allfirst.lags import compared, lag, lag_paper, later_by
+from allfirst.rounds import bound, is_paper, round_forms, round_hours
 from allfirst.rows import joined, row_hour, shifted, thinned, under
 
 ONE = [((0, 1), (1, 0)), ((2, -3),)]
@@ -53,6 +54,13 @@ TOLD_LISTS = TOLD_ROWS + [
     (windows, [[], OTHER]),
     (ways, [ONE, HOURS]),
     (holders, [ONE, HOURS, 60]),
+    (round_hours, [[ONE, OTHER, ONE], HOURS, 0]),
+    (round_hours, [[ONE, OTHER, ONE], HOURS, 3]),
+    (round_forms, [[ONE, OTHER, ONE], 0, 60]),
+    (round_forms, [[ONE, OTHER, ONE], 1, 60]),
+    (round_forms, [[ONE, OTHER, ONE], 2, 60]),
+    (bound, [HOURS, 4, [0, 0, 0], 0]),
+    (bound, [HOURS, 4, HOURS, 7]),
 ]
 
 TOLD_NUMBERS = [
@@ -71,6 +79,7 @@ TOLD_TRUTHS = [
     (over, [ONE[0], OTHER[1]]),
     (keeps_latest, [ONE[0], HOURS]),
     (keeps_earliest, [ONE[0], HOURS]),
+    (is_paper, [[ONE, OTHER, ONE], HOURS, 4]),
 ]
 
 TOLD_TUPLES = [

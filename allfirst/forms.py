@@ -1,7 +1,7 @@
 """Forms: thinned lists of rows, of which the first that is done tells the hour."""
 
 from allfirst.errors import TooMany
-from allfirst.rows import joined, lowest, row_hour, shifted
+from allfirst.rows import is_covered, joined, lowest, row_hour, shifted
 
 
 def thing_form(thing):
@@ -40,9 +40,13 @@ def put_into_row(row, forms, most):
 
 
 def each_joined(form, other):
-    rows = []
+    # A row with one of the other form's under it is joined with that one to itself, and lies under
+    # all that has it joined in. So such rows stand for themselves, and only the others are joined.
+    rows = [row for row in form if is_covered(row, other)] + [row for row in other if is_covered(row, form)]
+    rest = [row for row in other if not is_covered(row, form)]
     for row in form:
-        rows.extend([joined(row, other_row) for other_row in other])
+        if not is_covered(row, other):
+            rows.extend([joined(row, other_row) for other_row in rest])
     return rows
 
 

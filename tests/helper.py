@@ -1,10 +1,11 @@
-"""Small families of rows, forms and hours that the tests walk through, and what the document's words make of them."""
+"""Small families of rows, forms, hours and books for the tests, and what the document's words make of them."""
 
 import functools
 import itertools
 import random
 
 from allfirst.errors import TooMany
+from allfirst.plan import Book, Plan
 from allfirst.rows import joined, shifted, thinned
 
 
@@ -41,6 +42,48 @@ def drawn_hours(seed, count, many, reach):
     """As many lists of hours from -reach to reach; the same ones for the same seed."""
     chance = random.Random(seed)
     return [[chance.randint(-reach, reach) for thing in range(many)] for turn in range(count)]
+
+
+def drawn_book(seed, reach=9, many=3):
+    """A book of four plans of at most so many given things, with waits from -reach to reach."""
+    chance = random.Random(seed)
+    plans = []
+    for name in ("one", "two", "three", "four"):
+        givens = [f"g{number}" for number in range(chance.randint(1, many))]
+        rows = []
+        for number in range(chance.randint(1, 4)):
+            part = chance.choice(plans + [None, None])
+            how = chance.choice(["all", "first"]) if part is None else part.name
+            count = chance.randint(1, 3) if part is None else len(part.givens)
+            things = range(len(givens) + number)
+            items = tuple((chance.choice(things), chance.randint(-reach, reach)) for item in range(count))
+            rows.append((f"m{number}", how, items))
+        plans.append(Plan(name, givens, rows))
+    return Book(plans)
+
+
+def rich_book(seed):
+    """A book of two plans, one a part of the other, with forms of more rows than those of drawn_book."""
+    chance = random.Random(seed)
+    inner = layered_plan(chance, "inner", 3, 4, None)
+    return Book([inner, layered_plan(chance, "outer", chance.choice((4, 5, 6)), 7, inner)])
+
+
+def layered_plan(chance, name, many, rows, part):
+    """A plan of firsts of alls of firsts and so on, each of some of the last things, with a part in the middle."""
+    made = []
+    for number in range(rows):
+        ahead = many + number
+        is_part = part is not None and number == rows // 2
+        how = part.name if is_part else ("first", "all")[ahead % 2]
+        chosen = chance.sample(range(max(0, ahead - 5), ahead), 3)
+        made.append((f"m{number}", how, tuple((thing, chance.randint(-9, 9)) for thing in chosen)))
+    return Plan(name, [f"g{number}" for number in range(many)], made)
+
+
+def fields(book):
+    """All that a book holds, as values that can be compared."""
+    return [(plan.name, list(plan.givens), list(plan.rows)) for plan in book.plans]
 
 
 def first_by_the_words(forms):

@@ -66,6 +66,22 @@ INTERFACE = {
         "hours_of": ["book", "name", "hours"],
         "told_hour": ["book", "name", "hours"],
     },
+    "allfirst.planforms": {
+        "forms_of": ["book", "name", "most"],
+        "told_form": ["book", "name", "most"],
+        "planned": ["name", "many", "form"],
+    },
+    "allfirst.writing": {
+        "shown": ["book"],
+    },
+    "allfirst.reading": {
+        "read": ["text"],
+    },
+    "allfirst.judging": {
+        "judged": ["text", "one", "other", "most"],
+        "kept_by": ["text", "name", "deadline", "most"],
+        "held_up": ["text", "name", "hours", "most"],
+    },
     "allfirst.errors": {
         "BadRow": ["row"],
         "NoName": ["row"],

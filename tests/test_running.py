@@ -1,5 +1,4 @@
 import itertools
-import random
 import unittest
 
 from allfirst.errors import NoPlan
@@ -7,7 +6,7 @@ from allfirst.looking import looked
 from allfirst.plan import Book, Plan
 from allfirst.running import hours_of, told_hour
 
-from helper import drawn_hours
+from helper import drawn_book, drawn_hours, fields
 
 HUGE = 10 ** 3000
 BOTH = Plan("both", ["a", "b"], [("c", "all", ((0, 3), (1, -2)))])
@@ -28,23 +27,6 @@ def grown(book, name, hours):
         return grown(book, how, ends)[-1]
 
     return [hour(thing) for thing in range(len(plan.givens) + len(plan.rows))]
-
-
-def drawn_book(seed):
-    chance = random.Random(seed)
-    plans = []
-    for name in ("one", "two", "three", "four"):
-        givens = [f"g{number}" for number in range(chance.randint(1, 3))]
-        rows = []
-        for number in range(chance.randint(1, 4)):
-            part = chance.choice(plans + [None, None])
-            how = chance.choice(["all", "first"]) if part is None else part.name
-            count = chance.randint(1, 3) if part is None else len(part.givens)
-            things = range(len(givens) + number)
-            items = tuple((chance.choice(things), chance.randint(-9, 9)) for item in range(count))
-            rows.append((f"m{number}", how, items))
-        plans.append(Plan(name, givens, rows))
-    return Book(plans)
 
 
 class HoursOf(unittest.TestCase):
@@ -134,10 +116,6 @@ class HoursOf(unittest.TestCase):
         self.assertIs(type(told), list)
         self.assertEqual({type(hour) for hour in told}, {int})
         self.assertIs(type(told_hour(Book([BOTH]), "both", [10, 10])), int)
-
-
-def fields(book):
-    return [(plan.name, list(plan.givens), list(plan.rows)) for plan in book.plans]
 
 
 class Owning(unittest.TestCase):
